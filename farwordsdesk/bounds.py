@@ -12,11 +12,16 @@ BY_EVEN = 5
 LEAST = 6
 PROVES = 7
 AT = 8
+BEST_PROOF = 9
+SPREAD = 10
+TAKEN = 11
+APART = 12
+MORE = 13
+FILL = 14
+HELD = 15
 
 
-def answer_begun(desk, call, wholes, row):
-    if call == GOAL:
-        return desk.goal(wholes[0])
+def answer_alone(desk, call):
     if call == BY_BALLS:
         return desk.balls()
     if call == BY_CUT:
@@ -27,11 +32,31 @@ def answer_begun(desk, call, wholes, row):
         return desk.even()
     if call == LEAST:
         return desk.least()
+    if call == BEST_PROOF:
+        return desk.best_proof()
+    if call == SPREAD:
+        return desk.spread()
+    if call == TAKEN:
+        return desk.taken()
+    return desk.told()
+
+
+def answer_begun(desk, call, wholes, row):
+    if call == GOAL:
+        return desk.goal(wholes[0])
     if call == PROVES:
         return desk.proves(row)
     if call == AT:
         return desk.at(wholes[0], row)
-    raise NotImplementedError(f"call {call} is not built yet")
+    if call == APART:
+        return desk.apart(row)
+    if call == MORE:
+        return desk.more(row)
+    if call == FILL:
+        return desk.fill(row)
+    if call == HELD:
+        return desk.held(row)
+    return answer_alone(desk, call)
 
 
 def answer_call(desk, call, wholes, row):

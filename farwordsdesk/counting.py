@@ -49,3 +49,10 @@ def common_part(first, second):
 def lowest_terms(above, below):
     common = common_part(above, below)
     return [above // common, below // common]
+
+
+def told_fractions(aboves, below):
+    told = []
+    for above in aboves:
+        told.extend(lowest_terms(above, below))
+    return told

@@ -5,7 +5,9 @@ program's shorter sums shows.
 """
 
 from fractions import Fraction
+from functools import lru_cache
 from itertools import combinations
+from operator import mul
 
 from farwordsdesk.bounds import answers
 
@@ -99,3 +101,144 @@ def plain_bounds(bits, d):
     evened = by_mean(bits + 1, d + 1) if d % 2 else by_mean(bits, d)
     told = [by_balls(bits, d), 2 ** (bits - d + 1), by_mean(bits, d), evened]
     return told + [min(bound for bound in told if bound > 0)]
+
+
+def solved(lines):
+    """The one solution of as many equations as unknowns, each line [factors .., what they come to], or None."""
+    lines = [[Fraction(number) for number in line] for line in lines]
+    size = len(lines)
+    for column in range(size):
+        found = [place for place in range(column, size) if lines[place][column] != 0]
+        if not found:
+            return None
+        lines[column], lines[found[0]] = lines[found[0]], lines[column]
+        lines[column] = [number / lines[column][column] for number in lines[column]]
+        for place in range(size):
+            if place != column:
+                times = lines[place][column]
+                lines[place] = [number - times * other for number, other in zip(lines[place], lines[column])]
+    return [line[-1] for line in lines]
+
+
+def corners(rows):
+    """Each corner of what keeps to the rows: some unknowns are 0, and as many rows as there are others come to 0.
+
+    A row is [number, factors ..]; kept to it is if both together aren't below 0. No unknown is below 0. Whatever is
+    the least by one unknown after another, or by a sum of them ahead of that, is a corner.
+    """
+    size = len(rows[0]) - 1
+    for many in range(min(size, len(rows)) + 1):
+        for free in combinations(range(size), many):
+            for tight in combinations(rows, many):
+                values = solved([[row[place + 1] for place in free] + [-row[0]] for row in tight])
+                if values is None or any(value < 0 for value in values):
+                    continue
+                point = [Fraction(0)] * size
+                for place, value in zip(free, values):
+                    point[place] = value
+                if all(row[0] + sum(map(mul, row[1:], point)) >= 0 for row in rows):
+                    yield point
+
+
+@lru_cache(maxsize=None)
+def best_numbers(bits, d):
+    """The best proof's numbers but the first: the least of all corners."""
+    rows = [[-1] + [-SIGNS[bits, k, i] for k in range(1, bits + 1)] for i in range(d, bits + 1)]
+    return min(corners(rows), key=lambda numbers: (comes_to(bits, [1] + numbers, 0), numbers))
+
+
+@lru_cache(maxsize=None)
+def greatest_numbers(bits, d):
+    """The greatest spread's numbers: of all corners those with the most, and of these the least."""
+    rows = [[SIGNS[bits, k, 0]] + [SIGNS[bits, k, i] for i in range(d, bits + 1)] for k in range(1, bits + 1)]
+    return min(corners(rows), key=lambda numbers: (-sum(numbers), numbers))
+
+
+def fractions_told(numbers):
+    return [part for number in numbers for part in (Fraction(number).numerator, Fraction(number).denominator)]
+
+
+def best_proof(bits, d):
+    numbers = best_numbers(bits, d)
+    bound = comes_to(bits, [1] + numbers, 0)
+    return [bound.numerator // bound.denominator] + fractions_told([bound] + numbers)
+
+
+def spread(bits, d):
+    numbers = greatest_numbers(bits, d)
+    return [bits - d + 1] + fractions_told(numbers + [sum(numbers) + 1])
+
+
+def fractions_of(numbers):
+    """The fractions that are told by so many numbers, two each."""
+    return [Fraction(above, below) for above, below in zip(numbers[::2], numbers[1::2], strict=True)]
+
+
+def distance(one, other):
+    return bin(one ^ other).count("1")
+
+
+def right_words(bits, words):
+    return words == sorted(set(words)) and all(word < 2 ** bits for word in words)
+
+
+def is_apart(words, d):
+    return all(distance(one, other) >= d for one, other in combinations(words, 2))
+
+
+def filled(bits, d, words):
+    there = list(words)
+    for word in range(2 ** bits):
+        if all(distance(word, other) >= d for other in there):
+            there.append(word)
+    return there
+
+
+def apart(bits, d, words):
+    if not right_words(bits, words):
+        return [-22]
+    return [int(is_apart(words, d))]
+
+
+def more(bits, d, words):
+    if not right_words(bits, words):
+        return [-22]
+    far = [word for word in range(2 ** bits) if all(distance(word, other) >= d for other in words)]
+    return [len(far)] + far
+
+
+def fill(bits, d, words):
+    if not right_words(bits, words):
+        return [-22]
+    if not is_apart(words, d):
+        return [-33]
+    there = filled(bits, d, words)
+    return [len(there)] + there
+
+
+def held(bits, words):
+    if not right_words(bits, words):
+        return [-22]
+    if not words:
+        return [-6]
+    counts = [sum(1 for one in words for other in words if distance(one, other) == i) for i in range(bits + 1)]
+    return [bits + 1] + fractions_told([Fraction(count, len(words)) for count in counts])
+
+
+PLAIN = ("by_balls", "by_cut", "by_mean", "by_even", "least")
+
+
+def looked(bits, d, name, given):
+    """What each call but begin and goal must be answered behind a begin, worked out beside the program."""
+    if name in PLAIN:
+        return [plain_bounds(bits, d)[PLAIN.index(name)]]
+    if name in ("proves", "apart", "more", "fill"):
+        return {"proves": proves, "apart": apart, "more": more, "fill": fill}[name](bits, d, *given)
+    return {
+        "at": lambda: at(bits, *given),
+        "best_proof": lambda: best_proof(bits, d),
+        "spread": lambda: spread(bits, d),
+        "taken": lambda: fill(bits, d, []),
+        "held": lambda: held(bits, *given),
+        "told": lambda: [bits, d],
+    }[name]()

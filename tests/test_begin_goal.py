@@ -1,4 +1,4 @@
-"""Point 1: begin and goal; and what 'The calls' says of refusals and of an object that isn't begun."""
+"""Point 1: begin, goal and told; and what 'The calls' says of refusals and of an object that isn't begun."""
 
 import unittest
 
@@ -84,6 +84,26 @@ class Goal(unittest.TestCase):
         row = [2, 1, 0, 0, 0]
         answered = ask(("begin", 4, 3), ("proves", row), ("goal", 2), ("proves", row), ("goal", 4), ("proves", row))
         self.assertEqual(answered, [[0], [3, 3, 1], [3], [-33], [2], [3, 3, 1]])
+
+
+class Told(unittest.TestCase):
+    def test_bits_then_d(self):
+        for bits, d in GOALS:
+            with self.subTest(bits=bits, d=d):
+                self.assertEqual(ask(("begin", bits, d), "told"), [[0], [bits, d]])
+
+    def test_after_goal_and_begin_again_right_and_wrong(self):
+        answered = ask("told", ("begin", 3, 4), "told", ("begin", 6, 4), "told", ("goal", 6), "told", ("goal", 7),
+                       "told", ("begin", 2, 1), "told", ("goal", 3), "told", ("begin", 7, 2), "told", "told")
+        self.assertEqual(answered, [[-61], [-22], [-61], [0], [6, 4], [4], [6, 6], [-22],
+                                    [6, 6], [0], [2, 1], [-22], [2, 1], [-22], [2, 1], [2, 1]])
+
+    def test_every_goal_is_told(self):
+        for bits, d in GOALS:
+            for new in (0, *range(1, bits + 1), bits + 1, LARGEST):
+                with self.subTest(bits=bits, d=d, new=new):
+                    now = new if 1 <= new <= bits else d
+                    self.assertEqual(ask_last(("begin", bits, d), ("goal", new), "told"), [bits, now])
 
 
 class NotBegun(unittest.TestCase):

@@ -8,20 +8,38 @@ import unittest
 
 import farwordsdesk.bounds
 from farwordsdesk.bounds import answers
-from model import LARGEST, at, plain_bounds, proves, taken_apart, written
+from model import LARGEST, NUMBERS, best_proof, filled, held, looked, spread, taken_apart, written
 
-PLAIN = ("by_balls", "by_cut", "by_mean", "by_even", "least")
+
+def numbers_by_chance(chance, bits):
+    return [chance.choice((0, 1, 1, 2, 3, 1000, chance.choice((1, 1001, LARGEST))))
+            for place in range(chance.choice((bits + 1, bits + 1, bits + 1, chance.randint(0, 7))))]
+
+
+def words_by_chance(chance, bits, d):
+    """A row of words: some of all, some that are apart, or, now and then, one with a slip in it."""
+    every = range(2 ** max(bits, 1))
+    row = sorted(chance.sample(every, chance.randint(0, len(every))))
+    if bits > 0 and chance.random() < 0.6:
+        row = filled(bits, d, [chance.choice(every)])
+        row = sorted(chance.sample(row, chance.randint(0, len(row))))
+    slip = chance.randint(0, 12)
+    if slip == 0:
+        row = row[:63] + [chance.choice((len(every), 64, LARGEST))]
+    elif slip == 1:
+        row = row[:1] + row[:63]
+    elif slip == 2:
+        chance.shuffle(row)
+    return row
 
 
 def line_by_chance(chance):
-    """Up to 60 calls of the nine, right and wrong, and what each must be answered, worked out beside."""
+    """Up to 60 calls, right and wrong, and what each must be answered, worked out beside."""
     calls = []
     expected = []
     bits = d = 0
     for turn in range(chance.randint(1, 60)):
-        name = chance.choice(("begin", "goal", "proves", "at", *PLAIN))
-        row = [chance.choice((0, 1, 1, 2, 3, 1000, chance.choice((1, 1001, LARGEST))))
-               for place in range(chance.choice((bits + 1, bits + 1, bits + 1, chance.randint(0, 7))))]
+        name = chance.choice(tuple(NUMBERS))
         number = chance.choice((0, 1, 2, 3, 4, 5, 6, 7, LARGEST))
         if name == "begin":
             new_bits = chance.choice((0, 1, 2, 3, 4, 5, 6, 7, LARGEST))
@@ -31,19 +49,22 @@ def line_by_chance(chance):
             if right:
                 bits, d = new_bits, number
             continue
-        calls.append({"goal": (name, number), "proves": (name, row), "at": (name, number, row)}.get(name, name))
+        given = []
+        if name in ("goal", "at"):
+            given.append(number)
+        if name in ("proves", "at"):
+            given.append(numbers_by_chance(chance, bits))
+        if name in ("apart", "more", "fill", "held"):
+            given.append(words_by_chance(chance, bits, d))
+        calls.append((name, *given))
         if bits == 0:
             expected.append([-61])
         elif name == "goal":
             right = 1 <= number <= bits
             expected.append([d] if right else [-22])
             d = number if right else d
-        elif name == "proves":
-            expected.append(proves(bits, d, row))
-        elif name == "at":
-            expected.append(at(bits, number, row))
         else:
-            expected.append([plain_bounds(bits, d)[PLAIN.index(name)]])
+            expected.append(looked(bits, d, name, given))
     return calls, expected
 
 
@@ -61,17 +82,41 @@ class Interface(unittest.TestCase):
         self.assertEqual(answers([0, 1, 1, 8, 1, 2, 2, 5, 3]), [1, 0, 2, 0, -3, 1, 2])
         self.assertEqual(answers([0, 1, 1, 7, 0, 8, 0, 0, 3]), [1, 0, 1, -22, 1, -22, 1, 2])
         self.assertEqual(answers([7, 2, 0, 6, 0, 6, 6, 6]), [1, -61, 1, 0, 1, 2])
+        self.assertEqual(answers([0, 2, 2, 9, 10]), [1, 0, 7, 2, 2, 1, 1, 2, 0, 1, 5, 1, 1, 1, 2, 1])
+        self.assertEqual(answers([0, 3, 2, 11, 16]), [1, 0, 5, 4, 0, 3, 5, 6, 2, 3, 2])
+        self.assertEqual(answers([0, 3, 2, 12, 2, 0, 3, 12, 0, 12, 2, 3, 0]), [1, 0, 1, 1, 1, 1, 1, -22])
+        self.assertEqual(answers([0, 3, 2, 13, 2, 0, 1, 13, 2, 0, 7]), [1, 0, 3, 2, 6, 7, 1, 0])
+        self.assertEqual(answers([0, 3, 2, 14, 1, 5, 14, 2, 0, 1, 16]), [1, 0, 5, 4, 5, 0, 3, 6, 1, -33, 2, 3, 2])
+        self.assertEqual(answers([0, 2, 1, 15, 3, 0, 1, 3, 15, 0]), [1, 0, 7, 3, 1, 1, 4, 3, 2, 3, 1, -6])
+        self.assertEqual(answers([9, 10, 11, 12, 0, 13, 1, 9, 14, 0, 15, 0, 16]), [1, -61] * 8)
 
     def test_lines_by_chance(self):
         chance = random.Random(5000)
-        for turn in range(1500):
+        for turn in range(400):
             calls, expected = line_by_chance(chance)
             handed = written(*calls)
             self.assertEqual(taken_apart(answers(handed)), expected, handed)
 
+    def test_lines_by_chance_meet_every_answer(self):
+        chance = random.Random(5000)
+        met = set()
+        for turn in range(400):
+            calls, expected = line_by_chance(chance)
+            met.update((call[0], min(answer[0], 0)) for call, answer in zip(calls, expected))
+        refusals = {name: {-61} for name in NUMBERS}
+        refusals["begin"] = {-22}
+        for name, more in (("goal", [-22]), ("by_mean", [-33]), ("by_even", [-33]), ("proves", [-22, -33]),
+                           ("at", [-22]), ("apart", [-22]), ("more", [-22]), ("fill", [-22, -33]),
+                           ("held", [-22, -6])):
+            refusals[name].update(more)
+        self.assertEqual(met, {(name, number) for name in NUMBERS for number in refusals[name] | {0}})
+
     def test_sixty_calls(self):
         calls = [("begin", 6, 3)] + [("proves", [1] * 7)] * 29 + [("at", 0, [1000] * 7)] * 30
         expected = [[0]] + [[64, 64, 1]] * 29 + [[0, 64000]] * 30
+        self.assertEqual(taken_apart(answers(written(*calls))), expected)
+        calls = [("begin", 6, 1)] + ["best_proof", "spread"] * 29 + ["told"]
+        expected = [[0]] + [best_proof(6, 1), spread(6, 1)] * 29 + [[6, 1]]
         self.assertEqual(taken_apart(answers(written(*calls))), expected)
         self.assertEqual(answers([4] * 60), [1, -61] * 60)
         self.assertEqual(answers([0, 1, 1] * 60), [1, 0] * 60)
@@ -80,6 +125,10 @@ class Interface(unittest.TestCase):
         handed = written(*([("held", [LARGEST] * 64)] * 60))
         self.assertLessEqual(len(handed), 5000)
         self.assertEqual(answers(handed), [1, -61] * 60)
+        every = list(range(64))
+        handed = written(("begin", 6, 1), *([("held", every)] * 30), *([("fill", every)] * 29))
+        expected = [[0]] + [held(6, every)] * 30 + [[64] + every] * 29
+        self.assertEqual(taken_apart(answers(handed)), expected)
 
     def test_the_largest_numbers_everywhere(self):
         handed = [0, LARGEST, LARGEST, 1, LARGEST, 0, 6, 6, 0, LARGEST, 1, 1, LARGEST,
@@ -134,6 +183,7 @@ class Interface(unittest.TestCase):
         heard = io.StringIO()
         with contextlib.redirect_stdout(heard), contextlib.redirect_stderr(heard):
             answers([6, 0, 4, 3, 1, 2, 2, 3, 4, 5, 6, 7, 1, 1, 8, 9, 0])
+            answers([0, 4, 3, 9, 10, 11, 12, 0, 13, 1, 4, 14, 2, 0, 1, 15, 0, 16])
         self.assertEqual(heard.getvalue(), "")
 
     def test_the_file_holds_the_function_itself(self):

@@ -28,6 +28,15 @@ WORDS_NOWHERE = (
     r"|NamedTuple|TypedDict|TYPE_CHECKING|abstractmethod)\b|dataclass|overload|contextmanager"
 )
 
+# The methods of Python's own values that may be called.
+METHODS = (
+    "append clear copy count endswith extend find get index insert isalnum isalpha isdigit islower isspace isupper "
+    "items join keys ljust lower lstrip partition pop remove replace reverse rfind rjust rpartition rsplit rstrip "
+    "setdefault split splitlines startswith strip update upper values zfill bit_length"
+).split()
+
+PYTHONS_OWN = {name for kind in (str, int, list, dict, set, bytes, tuple) for name in dir(kind)}
+
 
 def files():
     return sorted(path for path in PACKAGE.rglob("*") if path.is_file() and "__pycache__" not in path.parts)
@@ -101,6 +110,71 @@ class Language(unittest.TestCase):
             for node in ast.walk(tree):
                 if isinstance(node, ast.Name) and isinstance(node.ctx, ast.Load):
                     self.assertIn(node.id, bound | set(OWN_NAMES))
+
+    def test_no_parameter_or_local_is_called_like_an_import_or_a_class(self):
+        for path, text, tree in self.each():
+            drawn = {alias.asname or alias.name for node in tree.body if isinstance(node, ast.ImportFrom)
+                     for alias in node.names}
+            drawn |= {node.name for node in tree.body if isinstance(node, ast.ClassDef)}
+            for node in ast.walk(tree):
+                if isinstance(node, ast.arg):
+                    self.assertNotIn(node.arg, drawn)
+                elif isinstance(node, ast.Name) and isinstance(node.ctx, ast.Store):
+                    self.assertNotIn(node.id, drawn)
+
+    def test_imports_come_from_the_defining_file_and_in_no_circle(self):
+        draws = {}
+        defined = {}
+        for path, text, tree in self.each():
+            draws[path.stem] = [(node.module.split(".")[1], alias.name) for node in tree.body
+                                if isinstance(node, ast.ImportFrom) for alias in node.names]
+            defined[path.stem] = {node.name for node in tree.body if isinstance(node, (ast.FunctionDef, ast.ClassDef))}
+            tops = [target.id for node in tree.body if isinstance(node, ast.Assign) for target in node.targets]
+            defined[path.stem] |= set(tops)
+            self.assertEqual(len(tops), len(set(tops)))
+        for drawn in draws.values():
+            for stem, name in drawn:
+                self.assertIn(name, defined[stem])
+        left = {stem: {other for other, name in drawn} for stem, drawn in draws.items()}
+        while left:
+            free = [stem for stem, others in left.items() if not others & set(left)]
+            self.assertTrue(free, left)
+            for stem in free:
+                del left[stem]
+
+    def test_methods_and_values(self):
+        methods = set()
+        values = set()
+        called = set()
+        for path, text, tree in self.each():
+            for node in ast.walk(tree):
+                if isinstance(node, ast.ClassDef):
+                    names = [item.name for item in node.body]
+                    self.assertEqual(len(names), len(set(names)))
+                    methods.update(names)
+                elif isinstance(node, ast.Call) and isinstance(node.func, ast.Attribute):
+                    called.add(node.func.attr)
+                elif isinstance(node, ast.Attribute) and isinstance(node.ctx, ast.Store):
+                    self.assertEqual(node.value.id, "self")
+                    values.add(node.attr)
+        self.assertEqual(methods & values, set())
+        self.assertEqual((methods | values) & PYTHONS_OWN, {"__init__"})
+        self.assertLessEqual(called, methods | set(METHODS))
+
+    def test_narrower_forms(self):
+        for path, text, tree in self.each():
+            for node in ast.walk(tree):
+                if isinstance(node, ast.ListComp):
+                    self.assertEqual(len(node.generators), 1)
+                    self.assertLessEqual(len(node.generators[0].ifs), 1)
+                elif isinstance(node, ast.Assign):
+                    self.assertNotIsInstance(node.targets[0], (ast.Tuple, ast.List))
+                    if isinstance(node.value, ast.Call) and isinstance(node.value.func, ast.Name):
+                        self.assertNotIn(node.value.func.id, ("range", "zip", "enumerate", "reversed", "set"))
+                elif isinstance(node, ast.Compare) and isinstance(node.ops[0], (ast.Is, ast.IsNot)):
+                    self.assertIn(getattr(node.comparators[0], "value", 0), (None, True, False))
+                elif isinstance(node, (ast.FunctionDef, ast.Lambda)):
+                    self.assertEqual((node.args.vararg, node.args.kwarg, node.args.kwonlyargs), (None, None, []))
 
     def test_the_interface_is_written_in_its_own_file_alone(self):
         holders = [path.name for path, text, tree in self.each()
